@@ -1,0 +1,1 @@
+"""Gaprows: rows whose worths may lack."""
