@@ -1,6 +1,6 @@
 """Cells, rows and tables: which there are, and what of them is refused."""
 
-from gaprows.errors import BadTables
+from gaprows.errors import BadTables, BadTop
 
 HIGHEST_NUMBER = 99
 HIGHEST_NAME = 9
@@ -36,6 +36,12 @@ def is_cell(value):
 def is_row(value, wide):
     """Whether a value is a row of so many cells."""
     return isinstance(value, tuple) and len(value) == wide and all(is_cell(cell) for cell in value)
+
+
+def check_top(top, highest):
+    """Refuse what is no number from 0 to the highest."""
+    if not is_within(top, 0, highest):
+        raise BadTop(f"no number from 0 to {highest}")
 
 
 def check_row(row):

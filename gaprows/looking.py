@@ -3,7 +3,7 @@
 Things are looked at as they stand, each one ahead of those within it, and are numbered so.
 """
 
-from gaprows.cells import HIGHEST_NUMBER, MOST_CELLS, is_number, is_within
+from gaprows.cells import HIGHEST_NUMBER, MOST_CELLS, check_tables, is_number, is_within, widths_of
 from gaprows.errors import BadSentence
 
 MOST_THINGS = 60
@@ -144,6 +144,12 @@ def look_at_sentence(sentence, widths, tally):
 def check_sentence(sentence, widths):
     """How many columns a sentence has; what is none, over tables of such widths, is refused."""
     return look_at_sentence(sentence, widths, Tally())
+
+
+def check_over_tables(sentence, tables):
+    """How many columns a sentence has; tables that can't be are refused, then what is no sentence over them."""
+    check_tables(tables)
+    return check_sentence(sentence, widths_of(tables))
 
 
 def check_condition(condition, wide):

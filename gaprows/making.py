@@ -6,8 +6,7 @@ gaps never do. Each sentence, condition and part is made once for each of the tw
 what is made grows only as what it is made of.
 """
 
-from gaprows.cells import HIGHEST_NUMBER, check_tables, is_within
-from gaprows.errors import BadTop
+from gaprows.cells import HIGHEST_NUMBER, check_tables, check_top
 from gaprows.looking import check_sentence
 
 PLAIN_WORDS = {"plus": "plus", "take": "take", "is": "eq", "less": "lt"}
@@ -158,8 +157,7 @@ def plain_row(row, beneath):
 def flat(tables, beneath):
     """The tables as lists of plain rows, the number lying beneath all gaps."""
     check_tables(tables)
-    if not is_within(beneath, 0, HIGHEST_NUMBER):
-        raise BadTop("no number from 0 to 99 to lie beneath gaps")
+    check_top(beneath, HIGHEST_NUMBER)
     return [[plain_row(row, beneath) for row in rows] for _, rows in tables]
 
 

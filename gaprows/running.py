@@ -1,7 +1,7 @@
 """What a sentence tells over tables, and a condition over a row, by three truths."""
 
-from gaprows.cells import check_row, check_tables, widths_of
-from gaprows.looking import check_condition, check_sentence
+from gaprows.cells import check_row
+from gaprows.looking import check_condition, check_over_tables
 from gaprows.truths import of_both, of_either, opposite, same, same_cells, truth_of
 
 
@@ -72,8 +72,7 @@ def rows_told(sentence, tables):
 
 def run(sentence, tables):
     """The rows that a sentence tells over tables, each with "sure" or "maybe"."""
-    check_tables(tables)
-    check_sentence(sentence, widths_of(tables))
+    check_over_tables(sentence, tables)
     return [(row, "sure" if truth else "maybe") for row, truth in rows_told(sentence, tables)]
 
 

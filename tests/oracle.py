@@ -1,7 +1,9 @@
-"""The document's points 3 to 5, and 9, told once more in another way, to compare with.
+"""The document's points 3 to 5, 9, 11 and 18, told once more in another way, to compare with.
 
 A truth is 2 for True, 1 for None, 0 for False: and is the least, or the greatest.
 """
+
+import itertools
 
 TRUTHS = (False, None, True)
 
@@ -118,3 +120,88 @@ def plain_told(sentence, flats):
         return [left + right for left in one for right in other]
     assert word == "missing"
     return [left for left in one if not any([plain_truth(rest[1], left + right) for right in other])]
+
+
+def names_in(tables):
+    """The names of the gaps in tables, as they are met first."""
+    cells = [cell for _, rows in tables for row in rows for cell in row]
+    return list(dict.fromkeys(cell[1] for cell in cells if not isinstance(cell, int)))
+
+
+def filled(row, filling):
+    return tuple(cell if isinstance(cell, int) else filling[cell[1]] for cell in row)
+
+
+def fillings(tables, top):
+    """All fillings, in order, each a dict."""
+    names = names_in(tables)
+    return [dict(zip(names, numbers)) for numbers in itertools.product(range(top + 1), repeat=len(names))]
+
+
+def worlds(sentence, tables, top):
+    """All fillings, in order, each with the rows that the sentence tells by it."""
+    told = []
+    for filling in fillings(tables, top):
+        world = [(wide, [filled(row, filling) for row in rows]) for wide, rows in tables]
+        told.append((filling, [row for row, _ in graded(sentence, world)]))
+    return told
+
+
+def text(thing):
+    """A sentence, condition or part as words, whatever numbers stand in it."""
+    word, *inner = thing
+    if word == "col":
+        return "c" + str(inner[0])
+    if word == "num":
+        return str(inner[0])
+    if word == "rows":
+        return "rows " + str(inner[0])
+    if word == "pick":
+        numbers = [len(inner[1]), *inner[1]]
+        return " ".join(["pick", text(inner[0])] + [str(number) for number in numbers])
+    if word == "join":
+        numbers = [len(inner[2]), *itertools.chain(*inner[2])]
+        return " ".join(["join", text(inner[0]), text(inner[1])] + [str(number) for number in numbers])
+    return " ".join([word] + [text(one) for one in inner])
+
+
+FIGURES = [str(number) for number in range(100)]
+FORMS = {"sentence": {"rows": ["number"], "keep": ["sentence", "condition"], "pick": ["sentence", "once each"],
+                      "join": ["sentence", "sentence", "twice each"], "both": ["sentence"] * 2,
+                      "without": ["sentence"] * 2},
+         "condition": {"is": ["part"] * 2, "less": ["part"] * 2, "lacks": ["part"], "not": ["condition"],
+                       "true": ["condition"], "and": ["condition"] * 2, "or": ["condition"] * 2},
+         "part": {"plus": ["part"] * 2, "take": ["part"] * 2, **{word: [] for word in FIGURES},
+                  **{"c" + word: [] for word in FIGURES}},
+         "number": {word: [] for word in FIGURES},
+         "once each": {word: ["number"] * int(word) for word in FIGURES},
+         "twice each": {word: ["number"] * int(word) * 2 for word in FIGURES}}
+
+
+def place_of_fault(words):
+    """The place of the first word that can't stand there, or how many there are; None where all is well."""
+    awaited = ["sentence"]
+    for place, word in enumerate(words):
+        if not awaited or word not in FORMS[awaited[0]]:
+            return place
+        awaited = FORMS[awaited[0]][word] + awaited[1:]
+    return len(words) if awaited else None
+
+
+def thing_of(words):
+    """The thing that words without a fault begin with; its words are taken away."""
+    word = words.pop(0)
+    if word in FIGURES:
+        return ("num", int(word))
+    if word[1:] in FIGURES:
+        return ("col", int(word[1:]))
+    if word == "rows":
+        return (word, int(words.pop(0)))
+    many = {"lacks": 1, "not": 1, "true": 1, "pick": 1}.get(word, 2)
+    thing = (word, *[thing_of(words) for _ in range(many)])
+    if word not in ("pick", "join"):
+        return thing
+    count = int(words.pop(0))
+    if word == "pick":
+        return thing + (tuple(int(words.pop(0)) for _ in range(count)),)
+    return thing + (tuple((int(words.pop(0)), int(words.pop(0))) for _ in range(count)),)

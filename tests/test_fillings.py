@@ -5,33 +5,19 @@ import unittest
 from collections import Counter
 
 from gaprows.running import run
+from gaprows.sums import spans, totals
+from gaprows.worlds import may, shown, surely
+from tests.oracle import filled, fillings
 from tests.samples import Sampler
 
 G0, G1, G2 = ("gap", 0), ("gap", 1), ("gap", 2)
 R0, R1 = ("rows", 0), ("rows", 1)
 
 
-def names_in(tables):
-    names = []
-    for _, rows in tables:
-        for row in rows:
-            names.extend(cell[1] for cell in row if not isinstance(cell, int) and cell[1] not in names)
-    return list(dict.fromkeys(names))
-
-
-def filled(row, filling):
-    return tuple(cell if isinstance(cell, int) else filling[cell[1]] for cell in row)
-
-
-def fillings(tables, top):
-    names = names_in(tables)
-    for numbers in itertools.product(range(top + 1), repeat=len(names)):
-        yield dict(zip(names, numbers))
-
-
 class Fillings(unittest.TestCase):
     def holds(self, sentence, tables, top):
         told = run(sentence, tables)
+        least, most = [], []
         for filling in fillings(tables, top):
             world = run(sentence, [(wide, [filled(row, filling) for row in rows]) for wide, rows in tables])
             # Where nothing lacks, all rows are sure.
@@ -41,6 +27,24 @@ class Fillings(unittest.TestCase):
             every = Counter(filled(row, filling) for row, _ in told)
             self.assertEqual(sure - there, Counter(), (sentence, tables, filling))
             self.assertEqual(there - every, Counter(), (sentence, tables, filling))
+            least.append(sure)
+            most.append(every)
+        self.within(sentence, tables, top, least, most)
+
+    def within(self, sentence, tables, top, least, most):
+        """What is told by all fillings lies within what run tells, filled by each."""
+        always, ever = Counter(dict(surely(sentence, tables, top))), Counter(dict(may(sentence, tables, top)))
+        for row in set().union(*least, *most, always, ever):
+            self.assertGreaterEqual(always[row], min(sure[row] for sure in least), (sentence, tables, row))
+            self.assertLessEqual(ever[row], max(every[row] for every in most), (sentence, tables, row))
+            self.assertIsNone(shown(sentence, tables, top, row, min(sure[row] for sure in least))[1])
+            self.assertIsNone(shown(sentence, tables, top, row, max(every[row] for every in most) + 1)[0])
+        columns = range(min([2] + [len(row) for row in ever]))
+        for key, column in itertools.product(columns if ever else (), repeat=2):
+            bounds = {number: (low, high) for number, low, high in spans(sentence, tables, top, key, column)}
+            for number, low, high in totals(sentence, tables, top, key, column):
+                self.assertLessEqual(bounds[number][0], low, (sentence, tables, top, key, column, number))
+                self.assertGreaterEqual(bounds[number][1], high, (sentence, tables, top, key, column, number))
 
     def test_all_rows_that_may_be_are_there_by_some_filling(self):
         tables = [(1, [(G0,), (1,), (2,)])]

@@ -2,9 +2,14 @@
 
 import unittest
 
+from gaprows.alike import parted, parted_by
 from gaprows.errors import BadSentence
 from gaprows.making import made
+from gaprows.notes import read, written
 from gaprows.running import run, three
+from gaprows.sums import spans, totals
+from gaprows.worlds import may, shown, surely
+from tests.oracle import place_of_fault, text, thing_of
 from tests.samples import things
 
 WIDTHS = [2, 4, 3]
@@ -37,16 +42,42 @@ def boths(many, sentence):
     return whole
 
 
+def is_writable(sentence):
+    """Whether a text can tell it, though it is none."""
+    try:
+        words = text(sentence).split(" ")
+    except (TypeError, ValueError, IndexError):
+        return False
+    return place_of_fault(words) is None and thing_of(words) == sentence
+
+
 class Refusing(unittest.TestCase):
     def handing(self, sentence, widths):
         """The calls that a sentence can be handed in by."""
-        return (lambda: run(sentence, empty_tables(widths)), lambda: run(sentence, full_tables(widths)),
-                lambda: made(sentence, widths))
+        calls = [lambda: made(sentence, widths), lambda: written(sentence, widths),
+                 lambda: parted_by(sentence, R0, widths, 0, 0), lambda: parted_by(R0, sentence, widths, 0, 0)]
+        for tables in (empty_tables(widths), full_tables(widths)):
+            calls.extend(self.over(sentence, tables, 0, 0))
+        return calls
+
+    def over(self, sentence, tables, top, column):
+        """The calls that a sentence can be handed in by with tables."""
+        return [lambda: run(sentence, tables), lambda: surely(sentence, tables, top),
+                lambda: may(sentence, tables, top), lambda: shown(sentence, tables, top, (1,), 1),
+                lambda: totals(sentence, tables, top, column, 0), lambda: spans(sentence, tables, top, 0, column)]
+
+    def handing_worse(self, sentence, widths):
+        """Such calls with what is refused behind sentences, too."""
+        calls = [lambda: parted_by(sentence, None, widths, 4, 3), lambda: parted_by(R0, sentence, widths, 0, -1)]
+        return calls + self.over(sentence, full_tables(widths), 10, 99)
 
     def refused(self, at, why, sentence, widths=None):
         with self.subTest(sentence=sentence):
-            for call in self.handing(sentence, widths or WIDTHS):
+            widths = widths or WIDTHS
+            for call in self.handing(sentence, widths) + self.handing_worse(sentence, widths):
                 self.called(at, why, call)
+            if is_writable(sentence):
+                self.called(at, why, lambda: read(text(sentence), widths))
 
     def called(self, at, why, call):
         with self.assertRaises(BadSentence) as caught:
@@ -57,17 +88,23 @@ class Refusing(unittest.TestCase):
         with self.subTest(sentence=sentence):
             for call in self.handing(sentence, widths or WIDTHS):
                 call()
+            self.assertEqual(read(written(sentence, widths or WIDTHS), widths or WIDTHS), sentence)
 
     def condition_refused(self, at, why, condition, wide=4):
         """By three, and within sentences: numbered on behind the sentence that is kept."""
         row = (1, ("gap", 0), 2, 3)[:wide]
         with self.subTest(condition=condition):
             self.called(at, why, lambda: three(condition, row))
+            self.called(at, why, lambda: parted(condition, SO, wide, 0))
+            self.called(at, why, lambda: parted(condition, None, wide, 4))
+            self.called(at, why, lambda: parted(SO, condition, wide, 0))
+            self.called(at, why, lambda: parted(SO, condition, wide, -1))
             self.refused(at + 2, why, ("keep", R0, condition), [wide])
             self.refused(at + 4, why, ("both", R0, ("keep", R0, condition)), [wide])
 
     def condition_let_by(self, condition, wide=4):
         three(condition, (1, ("gap", 0), 2, 3)[:wide])
+        self.assertIsNone(parted(condition, condition, wide, 0))
         self.let_by(("keep", R0, condition), [wide])
 
 

@@ -5,6 +5,8 @@ import unittest
 from gaprows.errors import BadSentence, BadTables, BadTop
 from gaprows.making import flat
 from gaprows.running import run, three
+from gaprows.sums import spans, totals
+from gaprows.worlds import may, shown, surely
 
 GAP = ("gap", 0)
 GOOD = (2, [(1, GAP), (0, 99)])
@@ -24,6 +26,12 @@ class Tables(unittest.TestCase):
         with self.subTest(tables=tables):
             for sentence in (ROWS, ("rows", 2), ("row", 0), None):
                 self.place(table, row, run, sentence, tables)
+                for top in (0, 10):
+                    self.place(table, row, surely, sentence, tables, top)
+                    self.place(table, row, may, sentence, tables, top)
+                    self.place(table, row, shown, sentence, tables, top, (1, 2), 1)
+                    self.place(table, row, totals, sentence, tables, top, 0, 9)
+                    self.place(table, row, spans, sentence, tables, top, 9, 0)
             for beneath in (0, 99, -1, 100):
                 self.place(table, row, flat, tables, beneath)
 
@@ -36,6 +44,9 @@ class Tables(unittest.TestCase):
         with self.subTest(tables=tables):
             for at, (_, rows) in enumerate(tables):
                 self.assertEqual(run(("rows", at), tables), [(row, "sure") for row in rows])
+                self.assertEqual(sum(many for _, many in may(("rows", at), tables, 0)), len(rows))
+                self.assertEqual(surely(("rows", at), tables, 0), may(("rows", at), tables, 0))
+                self.assertEqual(totals(("rows", at), tables, 0, 0, 0), spans(("rows", at), tables, 0, 0, 0))
             self.assertEqual([len(rows) for rows in flat(tables, 0)], [len(rows) for _, rows in tables])
 
     def test_how_many_tables(self):
@@ -134,10 +145,12 @@ class Tables(unittest.TestCase):
 class Order(unittest.TestCase):
     def test_sentences_are_refused_behind_tables(self):
         for sentence in (None, ("rows", 3), ("pick", ROWS, ())):
-            with self.assertRaises(BadTables):
-                run(sentence, [])
-            with self.assertRaises(BadSentence):
-                run(sentence, [GOOD])
+            for function, *more in ((run,), (surely, 10), (may, -1), (shown, 10, (1, 2), 1), (totals, 10, 9, 0),
+                                    (spans, -1, 0, 9)):
+                with self.assertRaises(BadTables):
+                    function(sentence, [], *more)
+                with self.assertRaises(BadSentence):
+                    function(sentence, [GOOD], *more)
 
     def test_conditions_are_refused_behind_the_row(self):
         for condition in (None, ("lacks", ("col", 1)), ("is",)):
